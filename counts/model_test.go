@@ -360,14 +360,17 @@ func TestModel(t *testing.T) {
 	}
 }
 
-// Runs with hundreds of thousands of cases.
+// Runs with many thousands of cases.
 func TestModelOfLargeRuns(t *testing.T) {
 	x := newRandom(2)
 	for i := range 4 {
-		r := x.run(size{1, span(3, 10), 0, 0, 2, span(3, 3), span(i+1, i+1), span(1, 1), 10})
-		for range 5 {
-			low := min(96, max(0, r.Blows[0].Force.Low+x.from(-2, 2)))
-			r.Blows = append(r.Blows, blow(x.IntN(len(r.Canopy.Ribs)), low, low+3+i%2))
+		r := x.run(size{1, span(3, 10), 0, 0, 0, span(1, 1), span(i+1, i+1), span(1, 1), 10})
+		for range 7 {
+			low := min(94, max(0, r.Blows[0].Force.Low+x.from(-2, 2)))
+			r.Blows = append(r.Blows, blow(x.IntN(len(r.Canopy.Ribs)), low, low+4+i%2))
+		}
+		if many := len(cases(r)); many < 70000 {
+			t.Errorf("%d cases", many)
 		}
 		forces := x.forces(r)
 		for k, m := range r.Meters {
